@@ -1,0 +1,1 @@
+"""Tales told in rules: read strictly, and played by typed words."""
