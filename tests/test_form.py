@@ -13,7 +13,7 @@ FILES = sorted(path for path in PACKAGE.iterdir() if path.name != "__pycache__")
 NODES = """
 Module ImportFrom alias FunctionDef ClassDef arguments arg Assign AugAssign If While For Return Break Continue Pass
 Raise Try ExceptHandler Expr Constant Name Attribute Subscript Slice Call List Tuple Dict ListComp comprehension
-BinOp UnaryOp BoolOp Compare IfExp Load Store Add Sub Mult FloorDiv Mod And Or Not USub Eq NotEq Lt LtE Gt GtE Is
+BinOp UnaryOp BoolOp Compare IfExp Load Store Add Sub Mult FloorDiv Mod BitAnd BitOr And Or Not USub Eq NotEq Lt LtE Gt GtE Is
 IsNot In NotIn
 """.split()
 PYTHONS_NAMES = """

@@ -1,6 +1,6 @@
 import unittest
 
-from tests.helper import START, STATE, STATUS, ask, codes, played, read, read_answer, say, state, tale, told
+from tests.helper import CELLAR, START, STATE, STATUS, ask, codes, played, read, read_answer, say, state, tale, told
 
 GOES_ON = [0]
 WON = [1]
@@ -9,23 +9,6 @@ NOT_KNOWN = [0]
 NOT_NOW = [1]
 OVER = [-1]
 TOO_LONG = [-22]
-
-CELLAR = """
-var place = hall cellar garden;
-var lamp = off on;
-var key = shelf hand;
-when "light lamp" if lamp is off do lamp is on say "It burns.";
-when "go down" if place is hall and lamp is on do place is cellar say "Down you go.";
-when "go down" if place is hall do place is cellar say "You stumble.";
-when "go up" if place is cellar do place is hall say "Up again.";
-when "take key" if place is cellar and lamp is on do key is hand say "Taken.";
-when "go out" if place is hall and key is hand do place is garden say "Out!";
-show "You're in the hall." if place is hall;
-show "It's dark." if place is cellar and lamp is off;
-show "There's a key." if place is cellar and lamp is on and key is shelf;
-won if place is garden;
-lost if place is cellar and lamp is off;
-"""
 
 
 class Whole(unittest.TestCase):

@@ -1,1 +1,1 @@
-"""Tales told in rules: read strictly, and played by typed words."""
+"""Tales told in rules: read strictly, played by typed words, and gone through for how they can still be won."""

@@ -2,6 +2,7 @@
 
 from toldtale.wording import BLANK, NoTale, is_digit, is_letter, plain_line, words_of
 
+MOST_TEXT = 24576
 KEPT_WORDS = ("var", "when", "show", "won", "lost", "if", "do", "say", "is", "not", "and")
 MOST_VARS = 24
 LEAST_CHOICES = 2
@@ -12,6 +13,10 @@ MOST_WONS = 16
 MOST_LOSTS = 16
 MOST_PARTS = 16
 MOST_TYPED = 40
+
+
+class TooLong(ValueError):
+    pass
 
 
 class When:
@@ -198,6 +203,8 @@ def check_tale(tale):
 
 
 def tale_of(text):
+    if len(text) > MOST_TEXT:
+        raise TooLong("the text is too long")
     reader = Reader(words_of(text))
     tale = Tale()
     while reader.passes("var"):
